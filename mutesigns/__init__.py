@@ -1,0 +1,1 @@
+"""Mutesigns: what can be known of a writing that nobody can read."""
