@@ -30,7 +30,7 @@ def is_name(value):
 
 def is_side(value):
     """Whether it is a side."""
-    return isinstance(value, str) and value in SIDES
+    return is_one_of(value, SIDES)
 
 
 def is_truth(value):
@@ -81,6 +81,11 @@ def again_at(values):
     return None
 
 
+def is_one_of(value, strings):
+    """Whether it is one of these strings."""
+    return isinstance(value, str) and value in strings
+
+
 def first_twice(values):
     """The first of the integers or strings that equals one ahead of it, None if there is none."""
     at = again_at(values)
@@ -96,7 +101,7 @@ def check_side(side):
 def check_signs(values, signs):
     """Raises NoSign for the first value that is none of the signs."""
     for value in values:
-        if not isinstance(value, str) or value not in signs:
+        if not is_one_of(value, signs):
             raise NoSign(value)
 
 

@@ -57,6 +57,11 @@ def as_fact(value):
     return value if isinstance(value, Fact) else None
 
 
+def contraries_of(fact):
+    """The contraries of all its sayings: they hold just in the grids that do not keep it."""
+    return [saying.contrary() for saying in fact.sayings]
+
+
 def fact_items(fact):
     """The items of its text."""
     told = [item for saying in fact.sayings for item in ["or"] + saying_items(saying)]

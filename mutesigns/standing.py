@@ -2,7 +2,8 @@
 
 from mutesigns.books import check_book
 from mutesigns.checks import check_side, check_signs
-from mutesigns.errors import BadSaying
+from mutesigns.errors import BadFact, BadSaying
+from mutesigns.facts import as_fact
 from mutesigns.sayings import are_sayings, signs_told
 
 
@@ -19,6 +20,15 @@ def check_asked_two(book, sayings, side, one, other):
     check_standing(book, sayings)
     check_side(side)
     check_signs([one, other], book.signs)
+
+
+def check_asked(book, asked):
+    """Raises the errors of a Fact, or a Saying, that is asked of a book."""
+    check_book(book)
+    fact = as_fact(asked)
+    if fact is None:
+        raise BadFact("asked")
+    check_signs(signs_told(fact.sayings), book.signs)
 
 
 def standing(book, sayings):

@@ -1,5 +1,6 @@
 """Grids: the integers that tell them, what holds in them and what they keep, texts, errors in their order."""
 
+import functools
 import itertools
 import unittest
 
@@ -27,9 +28,14 @@ def line_numbers(many):
 
 def all_grids(signs):
     """All grids of the ascending signs."""
+    return listed_grids(tuple(signs))
+
+
+@functools.cache
+def listed_grids(signs):
     lines = line_numbers(len(signs))
-    return [Grid(signs, rows, columns) for rows, columns in itertools.product(lines, lines)
-            if len(set(zip(rows, columns))) == len(signs)]
+    return tuple(Grid(signs, rows, columns) for rows, columns in itertools.product(lines, lines)
+                 if len(set(zip(rows, columns))) == len(signs))
 
 
 class Grids(Case):

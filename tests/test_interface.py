@@ -4,6 +4,8 @@ import importlib
 import inspect
 import unittest
 
+from mutesigns.papers import Denial, Paper, fixed
+
 PART_ERRORS = ["BadSide", "BadSaying", "BadFact", "BadBook", "BadGrid", "BadWord", "BadSheet", "BadCutting", "BadTies",
                "BadHeard", "BadValue", "BadNaming", "BadTurning", "BadNumber", "BadPaper", "BadDesk", "Misfit"]
 VALUE_ERRORS = ["Missing", "NoSign", "NoFact", "NoStem", "NoEnding", "NoName", "Twice"]
@@ -19,6 +21,19 @@ FUNCTIONS = {
         "lots_of": "(book, sayings, side)", "chain_of": "(book, sayings, side, one, other)",
     },
     "partings": {"parting_of": "(book, sayings, side, one, other)"},
+    "breaks": {"break_of": "(book, sayings)", "is_break": "(book, sayings, value)"},
+    "plain": {"finest": "(book)", "word_in": "(book, side, one, other)"},
+    "check_plain": {
+        "shows_chain": "(book, sayings, side, one, other, value)",
+        "shows_parting": "(book, sayings, side, one, other, value)", "shows_plain": "(book, value)",
+    },
+    "refusing": {"tree_with": "(book, sayings)", "grid_with": "(book, sayings)"},
+    "possible": {"grid_of": "(book)"},
+    "check_trees": {"is_tree": "(book, sayings, value)", "shows_grid": "(book, value)"},
+    "answers": {"answer": "(book, asked)", "words_of": "(book)", "sure_sayings": "(book)"},
+    "suregrid": {"sure_grid": "(book)", "parts_of": "(one, other)"},
+    "together": {"together": "(book, sayings)"},
+    "check_answers": {"shows_answer": "(book, asked, value)", "shows_together": "(book, sayings, value)"},
 }
 
 CLASSES = {
@@ -64,7 +79,18 @@ CLASSES = {
     },
     "joins": {"Chain": {"__init__": "(self, signs)"}, "NoChain": {"__init__": "(self, signs)"}},
     "partings": {"Parting": {"__init__": "(self, mine, its, by)"}},
+    "plain": {"Finest": {"__init__": "(self, grid)"}, "Broken": {"__init__": "(self, broken)"}},
+    "possible": {"Kept": {"__init__": "(self, grid)"}, "NoGrid": {"__init__": "(self, tree)"}},
+    "answers": {
+        "Sure": {"__init__": "(self, tree)"}, "Open": {"__init__": "(self, one, other)"},
+        "Never": {"__init__": "(self, trees)"},
+    },
+    "together": {
+        "Together": {"__init__": "(self, grid)"}, "Quarrel": {"__init__": "(self, numbers, tree, grids)"},
+    },
 }
+
+DENIALS = {"Denial", "NoChain", "Broken", "NoGrid", "Never", "Quarrel"}
 
 
 class Interface(unittest.TestCase):
@@ -85,6 +111,24 @@ class Interface(unittest.TestCase):
                 with self.subTest(file=file, name=name):
                     self.assertEqual(getattr(module, name).__module__, module.__name__)
                     self.check_methods(getattr(module, name), methods)
+
+    def test_papers(self):
+        for file, classes in CLASSES.items():
+            module = importlib.import_module(f"mutesigns.{file}")
+            for shape in [getattr(module, name) for name in classes if file != "papers"]:
+                if issubclass(shape, Paper):
+                    with self.subTest(paper=shape.__name__):
+                        self.check_paper(shape)
+
+    def check_paper(self, shape):
+        names = list(inspect.signature(shape).parameters)
+        given = {name: [at, [name]] for at, name in enumerate(names)}
+        paper, is_denial = shape(**given), shape.__name__ in DENIALS
+        self.assertEqual((paper.kind, paper.parts), (shape.__name__.lower(), fixed(list(given.values()))))
+        self.assertEqual([getattr(paper, name) for name in names], list(paper.parts))
+        self.assertEqual((issubclass(shape, Denial), bool(paper)), (is_denial, not is_denial))
+        self.assertEqual(paper, shape(*given.values()))
+        self.assertNotEqual(paper, Denial(paper.kind, *paper.parts) if is_denial else Paper(paper.kind, *paper.parts))
 
     def check_methods(self, shape, methods):
         for method, parameters in methods.items():
