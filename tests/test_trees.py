@@ -350,6 +350,14 @@ class ShowsGrid(Case):
             self.assertIs(shows_grid(Book(ABC, [], 1), value), False)
             self.assertIs(shows_grid(self.tight, value), False)
 
+    def test_a_class_below(self):
+        class Below(Kept):
+            pass
+
+        grid = Grid(ABC, (0, 0, 0), (0, 1, 2))
+        self.assertIs(shows_grid(Book(ABC), Below(grid)), False)
+        self.assertIs(shows_grid(Book(ABC), Kept(grid)), True)
+
     def test_many_signs(self):
         told = [Saying("row", one, other, False) for one, other in itertools.combinations(EIGHT, 2)]
         book = Book(EIGHT, told[:11], 2)
