@@ -43,12 +43,7 @@ class Book:
 
     def without(self, numbers):
         """The Book without the facts with these numbers."""
-        if not is_numbers(numbers):
-            raise BadNumber("numbers")
-        for number in numbers:
-            if not 0 <= number < len(self.facts):
-                raise NoFact(number)
-        check_unlike(numbers)
+        check_fact_numbers(self, numbers)
         left = [fact for number, fact in enumerate(self.facts) if number not in numbers]
         return Book(self.signs, left, self.most_rows, self.most_columns)
 
@@ -103,6 +98,16 @@ def check_book(book):
     """Raises BadBook for what is no Book."""
     if not isinstance(book, Book):
         raise BadBook("book")
+
+
+def check_fact_numbers(book, numbers):
+    """Raises BadNumber for what is no list of integers, NoFact, Twice for the first that is no number of a fact."""
+    if not is_numbers(numbers):
+        raise BadNumber("numbers")
+    for number in numbers:
+        if not 0 <= number < len(book.facts):
+            raise NoFact(number)
+    check_unlike(numbers)
 
 
 def _facts_told(facts):

@@ -119,6 +119,12 @@ class Grid:
         return " ".join(_grid_items(self))
 
 
+def check_grid(grid):
+    """Raises BadGrid for what is no Grid."""
+    if not isinstance(grid, Grid):
+        raise BadGrid("grid")
+
+
 def numbered(values):
     """The tuple of numbers for the values, counted in the order in which unlike ones first come."""
     numbers = {}

@@ -3,21 +3,19 @@
 from mutesigns.breaking import first_break
 from mutesigns.checks import check_many
 from mutesigns.forks import grown_rows
-from mutesigns.grids import Grid
-from mutesigns.masks import bits_told, first_mask, kept_masks, lines_in, pair_bits
+from mutesigns.listed import Listed, grid_listed
+from mutesigns.masks import first_mask
 from mutesigns.states import Board, finest_grid, seen_of, state_of
 
 MOST_SOUGHT = 6
 
 
 class Search:
-    """A book and the bits of all grids that keep it; of a plain book none are listed, as what stands tells all."""
+    """A book and all grids that keep it; of a plain book none are listed, as what stands tells all."""
 
     def __init__(self, book):
         self.book = book
-        self.board = Board(book)
-        self.bits = pair_bits(len(book.signs))
-        self.masks = [] if book.is_plain else kept_masks(self.board, self.bits)
+        self.listed = None if book.is_plain else Listed(book)
 
 
 def check_sought(book):
@@ -28,25 +26,25 @@ def check_sought(book):
 
 def grid_where(search, sayings):
     """A Grid that keeps the book and in which the sayings hold, None if there is none."""
-    if search.book.is_plain:
-        return _finest_where(search, sayings)
-    told = [search.board.by_numbers(saying) for saying in sayings]
-    alike, apart = bits_told(search.bits, told)
-    mask = first_mask(search.masks, alike, apart)
-    if mask is None:
-        return None
-    columns, rows = [lines_in(mask, search.bits, side, len(search.board.signs)) for side in range(2)]
-    return Grid(search.board.signs, rows, columns)
+    if search.listed is None:
+        return _finest_where(search.book, sayings)
+    alike, apart = search.listed.bits_for(sayings)
+    mask = first_mask(search.listed.masks, alike, apart)
+    return None if mask is None else grid_listed(search.listed, mask)
 
 
-def _finest_where(search, sayings):
+def _finest_where(book, sayings):
     """The grid in which just joined signs are alike, None if what stands breaks."""
-    board, state, parted = seen_of(search.book, sayings)
+    board, state, parted = seen_of(book, sayings)
     return finest_grid(board, state) if first_break(board, state, parted) is None else None
 
 
 def tree_where(search, sayings):
     """A refusing tree of the book with the sayings standing besides, None if there is none."""
-    if grid_where(search, sayings) is not None:
-        return None
-    return tuple(grown_rows(search.board, state_of(search.board, search.book, sayings), 0))
+    return refusing_tree(search.book, sayings) if grid_where(search, sayings) is None else None
+
+
+def refusing_tree(book, sayings):
+    """A refusing tree of the book with the sayings standing besides; no grid must be left."""
+    board = Board(book)
+    return tuple(grown_rows(board, state_of(board, book, sayings), 0))

@@ -1,6 +1,6 @@
 """The items of a text, read one behind the other: the first that cannot stand raises BadText."""
 
-from mutesigns.checks import is_name, is_within
+from mutesigns.checks import is_name, is_within, is_word
 from mutesigns.errors import BadText
 
 DIGITS = "0123456789"
@@ -14,6 +14,12 @@ def integer_of(item):
     if item[0] == "0" and item != "0":
         return None
     return int(item)
+
+
+def word_of(item):
+    """The word that the item writes, its signs with `+` between, None if it writes none."""
+    signs = tuple(item.split("+"))
+    return signs if is_word(signs) else None
 
 
 class Items:
@@ -44,6 +50,18 @@ class Items:
         """Reads a name that is greater than behind, one of the signs where these are not None."""
         item = self.ahead()
         return self.take(is_name(item) and item > behind and (signs is None or item in signs))
+
+    def take_unlike(self, names):
+        """Reads a name that is none of these."""
+        item = self.ahead()
+        return self.take(is_name(item) and item not in names)
+
+    def take_signs(self):
+        """Reads a word of signs."""
+        item = self.ahead()
+        word = None if item is None else word_of(item)
+        self.take(word is not None)
+        return word
 
     def take_integer(self, least, most):
         """Reads an integer from least to most."""

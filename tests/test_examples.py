@@ -4,18 +4,16 @@ import importlib
 import pathlib
 import unittest
 
-import mutesigns
 from mutesigns.errors import SignError
+from test_interface import CLASSES, FUNCTIONS
 
 EXAMPLES = pathlib.Path(__file__).with_name("examples.txt")
 
 
 def all_names():
-    """All names that the files of the package define."""
-    found = {}
-    for path in sorted(pathlib.Path(mutesigns.__file__).parent.glob("*.py")):
-        found.update(vars(importlib.import_module(f"mutesigns.{path.stem}")))
-    return found
+    """All functions and classes of the interface."""
+    return {name: getattr(importlib.import_module(f"mutesigns.{file}"), name)
+            for listed in (FUNCTIONS, CLASSES) for file, names in listed.items() for name in names}
 
 
 def examples():
@@ -34,10 +32,14 @@ def examples():
 
 class Examples(unittest.TestCase):
     def test_examples(self):
-        names = all_names()
+        names = {}
+        ahead = None
         self.assertGreater(len(examples()), 0)
         for file, told, printed in examples():
             with self.subTest(file=file, told=told):
+                if file != ahead:
+                    names.update(all_names())
+                ahead = file
                 self.check(names, told, printed)
 
     def check(self, names, told, printed):

@@ -34,6 +34,21 @@ FUNCTIONS = {
     "suregrid": {"sure_grid": "(book)", "parts_of": "(one, other)"},
     "together": {"together": "(book, sayings)"},
     "check_answers": {"shows_answer": "(book, asked, value)", "shows_together": "(book, sayings, value)"},
+    "bearing": {"bears": "(book, asked, numbers)", "bearing": "(book, asked)", "all_bearing": "(book, asked)"},
+    "clashes": {"clash": "(book)", "all_clashes": "(book)"},
+    "slips": {"slips": "(book)", "all_slips": "(book)", "greatest_lots": "(book)"},
+    "check_slips": {
+        "shows_bearing": "(book, asked, value)", "shows_clash": "(book, value)", "shows_slips": "(book, value)",
+    },
+    "listing": {
+        "grids": "(book)", "many_grids": "(book)", "grid_at": "(book, number)", "number_of": "(book, grid)",
+        "part_of": "(grid, signs)",
+    },
+    "counts": {"many_by": "(book)", "many_on": "(book, grid)"},
+    "extremes": {"fewest_of": "(book, side)", "most_of": "(book, side)", "least_shapes": "(book)"},
+    "check_counts": {
+        "shows_fewest": "(book, side, value)", "shows_most": "(book, side, value)", "shows_shapes": "(book, value)",
+    },
 }
 
 CLASSES = {
@@ -88,9 +103,25 @@ CLASSES = {
     "together": {
         "Together": {"__init__": "(self, grid)"}, "Quarrel": {"__init__": "(self, numbers, tree, grids)"},
     },
+    "bearing": {
+        "Bears": {"__init__": "(self, numbers, tree, grids)"}, "Unborne": {"__init__": "(self, grid)"},
+    },
+    "clashes": {"Clash": {"__init__": "(self, numbers, tree, grids)"}},
+    "slips": {"Slips": {"__init__": "(self, numbers, grid, clashes)"}},
+    "extremes": {
+        "Fewest": {"__init__": "(self, grid, tree)"}, "Most": {"__init__": "(self, grid, trees)"},
+        "Shapes": {"__init__": "(self, grids, trees)"},
+    },
+    "sheets": {
+        "Sheet": {
+            "__init__": "(self, stems, endings, cells)", "word_at": "(self, stem, ending)",
+            "with_word": "(self, stem, ending, word)", "crossed": "(self)", "with_sheet": "(self, other)",
+            "read": "(text)", "__eq__": "(self, other)", "__str__": "(self)",
+        },
+    },
 }
 
-DENIALS = {"Denial", "NoChain", "Broken", "NoGrid", "Never", "Quarrel"}
+DENIALS = {"Denial", "NoChain", "Broken", "NoGrid", "Never", "Quarrel", "Unborne", "Clash"}
 
 
 class Interface(unittest.TestCase):

@@ -1,0 +1,24 @@
+"""All grids that keep a book of few signs, listed by their bits."""
+
+from mutesigns.grids import Grid
+from mutesigns.masks import bits_told, kept_masks, lines_in, pair_bits
+from mutesigns.states import Board
+
+
+class Listed:
+    """A book and the bits of all grids that keep it, in the order in which these are numbered."""
+
+    def __init__(self, book):
+        self.board = Board(book)
+        self.bits = pair_bits(len(book.signs))
+        self.masks = kept_masks(self.board, self.bits)
+
+    def bits_for(self, sayings):
+        """The pair of the bits that sayings of its signs tell to be set, and of those that they tell not to be."""
+        return bits_told(self.bits, [self.board.by_numbers(saying) for saying in sayings])
+
+
+def grid_listed(listed, mask):
+    """The Grid that these bits tell."""
+    columns, rows = [lines_in(mask, listed.bits, side, len(listed.board.signs)) for side in range(2)]
+    return Grid(listed.board.signs, rows, columns)
