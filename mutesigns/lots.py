@@ -1,13 +1,18 @@
-"""Lots of facts: ascending tuples of their numbers, those with fewer numbers first."""
+"""Lots: ascending tuples of numbers, or of signs, those with fewer first."""
 
 from itertools import combinations
 
 from mutesigns.checks import is_numbers
 
 
+def sized(values, size):
+    """All tuples of so many of the ascending values, ascending."""
+    return list(combinations(values, size))
+
+
 def lots_sized(many, size):
     """All lots of so many of the numbers below many, in order."""
-    return list(combinations(range(many), size))
+    return sized(list(range(many)), size)
 
 
 def lots_fewer(many, size):

@@ -1,7 +1,6 @@
 """Books with lesser bounds, and signs too many for them, by which trees show what grids cannot be."""
 
-from itertools import combinations
-
+from mutesigns.lots import sized
 from mutesigns.sayings import Saying, twos_of
 
 
@@ -30,10 +29,5 @@ def _bounded(book, most_rows, most_columns):
 
 def crowds(side, grid):
     """For each ascending tuple of signs, one more than the grid has rows or columns, that each two are apart."""
-    lots = _lots_sized(grid.signs, many_lines(grid, side) + 1)
+    lots = sized(grid.signs, many_lines(grid, side) + 1)
     return [[Saying(side, one, other, False) for one, other in twos_of(lot)] for lot in lots]
-
-
-def _lots_sized(signs, size):
-    """All tuples of so many of the ascending signs, ascending."""
-    return list(combinations(signs, size))

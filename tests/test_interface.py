@@ -49,6 +49,37 @@ FUNCTIONS = {
     "check_counts": {
         "shows_fewest": "(book, side, value)", "shows_most": "(book, side, value)", "shows_shapes": "(book, value)",
     },
+    "cuttings": {
+        "cuttings": "(sheet)", "tied_lots": "(sheet)", "seams": "(sheet, cutting)", "sayings_by": "(sheet, cutting)",
+        "seams_at": "(sheet, cutting, stem, ending)",
+    },
+    "sheetgaps": {
+        "reading_of": "(book, sheet)", "words_in": "(book, sheet, stem, ending)",
+        "word_for": "(book, sheet, stem, ending, word)",
+    },
+    "check_sheets": {
+        "shows_reading": "(book, sheet, value)", "shows_word": "(book, sheet, stem, ending, word, value)",
+    },
+    "beside": {
+        "ties_of": "(grid)", "spelled": "(one, other)", "beside_fact": "(one, other)", "apart_facts": "(one, other)",
+        "tied_book": "(signs, beside, apart)",
+    },
+    "bars": {"bar_of": "(ties)", "left_out": "(ties)"},
+    "lines": {
+        "hanging": "(ties)", "laid": "(ties)", "all_laid": "(ties)", "many_laid": "(ties)",
+        "lot_crossed": "(grid, sign)", "sides": "(ties, tie, other)",
+    },
+    "check_beside": {
+        "shows_laid": "(ties, value)", "shows_sides": "(ties, tie, other, value)", "shows_left_out": "(ties, value)",
+    },
+    "ways": {
+        "is_heard": "(value)", "is_value": "(value)", "syllables": "(heard, way)", "consonant_of": "(value)",
+        "vowel_of": "(value)", "exchanged": "(heard, one, other)",
+    },
+    "namings": {
+        "values_of": "(namings)", "stand": "(book, namings)", "ways_for": "(book, word, heard)",
+        "gives_away": "(book, namings)", "all_given": "(book, namings)", "lots_standing": "(book, namings)",
+    },
 }
 
 CLASSES = {
@@ -119,9 +150,42 @@ CLASSES = {
             "read": "(text)", "__eq__": "(self, other)", "__str__": "(self)",
         },
     },
+    "cuttings": {"Cutting": {"__init__": "(self, bodies, tails)", "__eq__": "(self, other)"}},
+    "sheetgaps": {
+        "Reading": {"__init__": "(self, cutting, grid)"}, "SureWord": {"__init__": "(self, rows)"},
+        "OpenWord": {"__init__": "(self, one, other)"}, "NoReading": {"__init__": "(self, trees)"},
+        "NeverWord": {"__init__": "(self, trees)"},
+    },
+    "beside": {
+        "Ties": {
+            "__init__": "(self, signs, pairs)", "are_beside": "(self, one, other)", "without": "(self, signs)",
+            "renamed": "(self, names)", "__len__": "(self)", "__eq__": "(self, other)",
+        },
+    },
+    "bars": {
+        "Claw": {"__init__": "(self, sign, others)"}, "Diamond": {"__init__": "(self, one, other, tips)"},
+        "Ring": {"__init__": "(self, signs)"}, "LeftOut": {"__init__": "(self, signs, grid, bars)"},
+    },
+    "lines": {
+        "Laid": {"__init__": "(self, grid)"}, "OneSide": {"__init__": "(self, walk)"},
+        "TwoSides": {"__init__": "(self, walk)"}, "Loose": {"__init__": "(self, lot)"},
+    },
+    "values": {
+        "Values": {
+            "__init__": "(self, pairs)", "value": "(self, sign)", "sayings": "(self)", "fits": "(self, grid)",
+            "__eq__": "(self, other)", "__str__": "(self)",
+        },
+    },
+    "namings": {
+        "Naming": {"__init__": "(self, word, heard, way)", "__eq__": "(self, other)", "__str__": "(self)"},
+        "Muddled": {"__init__": "(self, by)"}, "Stands": {"__init__": "(self, grid)"},
+        "Barred": {"__init__": "(self, tree)"}, "NothingGiven": {"__init__": "(self, trees)"},
+        "Given": {"__init__": "(self, saying, grid)"}, "Lots": {"__init__": "(self, greatest, barred)"},
+    },
 }
 
-DENIALS = {"Denial", "NoChain", "Broken", "NoGrid", "Never", "Quarrel", "Unborne", "Clash"}
+DENIALS = {"Denial", "NoChain", "Broken", "NoGrid", "Never", "Quarrel", "Unborne", "Clash", "NoReading", "NeverWord", "Claw",
+           "Diamond", "Ring", "TwoSides", "Muddled", "Barred", "Given"}
 
 
 class Interface(unittest.TestCase):
