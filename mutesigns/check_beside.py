@@ -64,7 +64,7 @@ def shows_sides(ties, tie, other, value):
     if type(value) is not Loose or not is_list(value.lot) or not all([isinstance(sign, str) for sign in value.lot]):
         return False
     lot = lot_hanging(ties, first[0])
-    return tuple(value.lot) == lot and last[0] not in lot and last[1] not in lot
+    return tuple(value.lot) == lot and last[0] not in lot
 
 
 def _is_walk(ties, first, last, walk):

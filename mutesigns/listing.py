@@ -1,7 +1,7 @@
 """All grids that keep a book, by their numbers."""
 
 from mutesigns.books import check_book
-from mutesigns.checks import check_many, check_signs, check_unlike, is_list, is_within
+from mutesigns.checks import check_many, check_signs, is_list, is_within
 from mutesigns.errors import BadGrid, BadNumber, Misfit
 from mutesigns.grids import Grid, check_grid
 from mutesigns.listed import Listed, grid_listed
@@ -46,7 +46,7 @@ def number_of(book, grid):
     if grid.signs != book.signs:
         raise Misfit("signs")
     listed = listed_grids(book)
-    mask, _ = listed.bits_for([saying for saying in grid.sayings() if saying.alike])
+    mask, _ = listed.bits_for(grid.sayings())
     return listed.masks.index(mask) if mask in listed.masks else None
 
 
@@ -56,5 +56,4 @@ def part_of(grid, signs):
     if not is_list(signs) or len(signs) == 0:
         raise BadGrid("signs")
     check_signs(signs, grid.signs)
-    check_unlike(signs)
     return Grid.of(signs, [grid.place(sign) for sign in signs])

@@ -8,7 +8,7 @@ from mutesigns.papers import Denial, Paper
 from mutesigns.possible import search_kept
 from mutesigns.searches import check_sought, grid_where, refusing_tree
 from mutesigns.values import Values
-from mutesigns.ways import WAYS, check_heard, check_way, syllables
+from mutesigns.ways import WAYS, check_heard, syllables
 
 MOST_NAMINGS = 6
 
@@ -19,12 +19,10 @@ class Naming:
     def __init__(self, word, heard, way):
         if not is_word(word):
             raise BadWord("word")
-        check_heard(heard)
-        check_way(way)
+        self.syllables = syllables(heard, way)
         self.word = tuple(word)
         self.heard = heard
         self.way = way
-        self.syllables = syllables(heard, way)
 
     def __eq__(self, other):
         return isinstance(other, Naming) and _naming_parts(self) == _naming_parts(other)

@@ -28,16 +28,11 @@ def check_heard(heard):
         raise BadHeard("heard")
 
 
-def check_way(way):
-    """Raises BadHeard for what is no way."""
-    if not is_one_of(way, WAYS):
-        raise BadHeard("way")
-
-
 def syllables(heard, way):
     """The values that the way makes of the heard word, in a row."""
     check_heard(heard)
-    check_way(way)
+    if not is_one_of(way, WAYS):
+        raise BadHeard("way")
     found = []
     for at, letter in enumerate(heard):
         if letter in VOWELS:

@@ -504,7 +504,7 @@ class Shows(Case):
         for walk in ([("a", "b"), ("c", "d")], right[:2], right[1:], right[::-1], [], None, SAME, [("b", "a"), *right[1:]],
                      [*right[:2], ("d", "c")], [right[0], *right], [*right, right[2]], [("a", "b"), ("a", "c"), ("c", "d")], "ab",
                      [("a", "b"), None, ("c", "d")], [SAME] * 3, [("a", "b"), SAME, ("c", "d")], {0: right[0]}, [right],
-                     [("a", "b"), ("a", "x"), ("c", "d")], ["ab", "ad", "cd"], [("a", "b"), ("a", "d", "c"), ("c", "d")]):
+                     [("a", "b"), ("a", "x"), ("c", "d")], ["ab", "ad", "cd"], [("a", "b"), ("a", SAME), ("c", "d")], [("a", "b"), ("a", "d", "c"), ("c", "d")]):
             for shape in (OneSide, TwoSides):
                 self.assertIs(shows(shape, walk), False)
 
@@ -521,7 +521,7 @@ class Shows(Case):
         ties = Ties(EIGHT[:6], [("a", "b"), ("b", "c"), ("d", "e")])
         for lot, is_right in ((["a", "b", "c"], True), (("a", "b", "c"), True), (["a", "b"], False), (["c", "b", "a"], False),
                               (["a", "b", "c", "f"], False), (["d", "e"], False), ([], False), (None, False), (SAME, False), ("abc", False),
-                              ([SAME] * 3, False), (["a", "b", None], False), ({"a": 1, "b": 1, "c": 1}, False)):
+                              ([SAME] * 3, False), (["a", "b", None], False), (["a", SAME, "c"], False), ({"a": 1, "b": 1, "c": 1}, False)):
             self.assertIs(shows_sides(ties, ("a", "b"), ("d", "e"), Loose(lot)), is_right, lot)
             self.assertIs(shows_sides(ties, ("a", "b"), ("c", "b"), Loose(lot)), False)
         two = Ties(EIGHT[:7], [*CLAW.pairs, ("e", "f")])

@@ -358,6 +358,11 @@ class ShowsSlips(Case):
                     Grid(["a", "b", "c", "e"], grid.rows, grid.columns)):
             self.assertIs(self.shows([0, 3], bad, pairs), False)
 
+    def test_numbers_of_no_fact(self):
+        book, tree = Book(["a", "b"], sayings_of("not row a b", "not column a b"), 1), [["many", "row", ["a", "b"]]]
+        for lot, is_right in (((0,), True), ((0, 1), True), ((0, 2), False), ((-1, 0), False)):
+            self.assertIs(shows_slips(book, Slips([0], Grid(["a", "b"], (0, 0), (0, 1)), [(lot, tree)])), is_right)
+
     def test_the_empty_lot(self):
         book = book_of(TORN, (0, 2, 4))
         grid = grid_of(book).grid

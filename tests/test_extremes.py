@@ -267,6 +267,19 @@ class ShowsShapes(Case):
             self.assertIs(shows_shapes(book, Shapes(grids, trees)), False)
         self.assertIs(shows_shapes(value=found, book=book), True)
 
+    def test_shapes_that_are_not_least_with_right_trees(self):
+        for book, shapes, is_right in (
+                (Book(ABC, sayings_of("not column a b")), [(1, 3), (2, 2)], True),
+                (Book(ABC, sayings_of("not column a b")), [(1, 3), (2, 2), (3, 2)], False),
+                (Book(ABC, sayings_of("not column a b")), [(1, 3), (2, 2), (2, 2)], False),
+                (Book(ABC, sayings_of("not row a b")), [(2, 2), (3, 1)], True),
+                (Book(ABC, sayings_of("not row a b")), [(2, 3), (2, 2), (3, 1)], False),
+                (Book(ABC, sayings_of("not row a b")), [(2, 2), (2, 2), (3, 1)], False)):
+            kept = kept_grids(book)
+            grids = [next(grid for grid in kept if shape(grid) == told) for told in shapes]
+            trees = [None if 0 in two else grid_of(book.bounded(*two)).tree for two in shape_bounds(book, shapes)]
+            self.assertIs(shows_shapes(book, Shapes(grids, trees)), is_right)
+
     def test_trees(self):
         book = Book(ABC)
         found = least_shapes(book)

@@ -186,6 +186,7 @@ class SignValues(Case):
             self.refuses(BadGrid("grid"), values.fits, value)
         self.refuses(NoSign("b"), values.fits, Grid(["a", "y"], (0, 1), (0, 1)))
         self.refuses(NoSign("x"), values.fits, Grid(["a", "b"], (0, 1), (0, 1)))
+        self.refuses(NoSign("b"), Values([("b", "ka")]).fits, Grid(["a", "y"], (0, 1), (0, 1)))
         for value in (None, 0, "a", "", ["y"], SAME):
             self.refuses(NoSign(value), values.value, value)
 
