@@ -48,12 +48,13 @@ def cuttings(sheet):
 def tied_lots(sheet):
     """The tied lots of the sheet: of each the tuple of its cells, stem by stem, the lots by their first cells."""
     check_sheet(sheet)
+    cells = _cells_with_words(sheet)
     lots = []
-    for cell in _cells_with_words(sheet):
+    for cell in cells:
         tied = [lot for lot in lots if any([_are_tied(cell, other) for other in lot])]
         lots = [lot for lot in lots if lot not in tied] + [[other for lot in tied for other in lot] + [cell]]
-    told = [[cell for cell in _cells_with_words(sheet) if cell in lot] for lot in lots]
-    return tuple([tuple(lot) for cell in _cells_with_words(sheet) for lot in told if lot[0] == cell])
+    told = [tuple([one for one in cells if one in lot]) for lot in lots]
+    return tuple([lot for one in cells for lot in told if lot[0] == one])
 
 
 def _cells_with_words(sheet):

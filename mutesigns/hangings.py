@@ -50,8 +50,9 @@ def grid_having(ties):
         if tie not in turned:
             more = sides_from(ties, tie)
             turned = {**turned, **more}
-    heads = [_heads(ties.signs, [tie for tie in ties.pairs if turned[tie] == is_turned]) for is_turned in (False, True)]
-    return Grid.of(ties.signs, [(heads[0][sign], heads[1][sign]) for sign in ties.signs])
+    rows = _heads(ties.signs, [pair for pair in ties.pairs if not turned[pair]])
+    columns = _heads(ties.signs, [pair for pair in ties.pairs if turned[pair]])
+    return Grid.of(ties.signs, [(rows[sign], columns[sign]) for sign in ties.signs])
 
 
 def _heads(signs, pairs):

@@ -190,8 +190,8 @@ def lots_standing(book, namings):
                 standing[lot] = paper.grid
             else:
                 barred.append((lot, paper))
-    parts = [part for lot in standing for part in parts_but_one(lot)]
-    return Lots([(lot, grid) for lot, grid in standing.items() if lot not in parts], barred)
+    parts = [part for whole in standing for part in parts_but_one(whole)]
+    return Lots([(whole, grid) for whole, grid in standing.items() if whole not in parts], barred)
 
 
 def namings_in(namings, lot):

@@ -64,7 +64,7 @@ def reading_of(book, sheet):
         grid = grid_where(search, sayings_cut(sheet, cutting))
         if grid is not None:
             return Reading(cutting, grid)
-    return NoReading([refusing_tree(book, sayings_cut(sheet, cutting)) for cutting in cuttings(sheet)])
+    return NoReading([refusing_tree(book, sayings_cut(sheet, one)) for one in cuttings(sheet)])
 
 
 def words_in(book, sheet, stem, ending):

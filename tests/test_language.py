@@ -22,6 +22,14 @@ NO_NODES = (ast.GeneratorExp, ast.Lambda, ast.Yield, ast.YieldFrom, ast.Await, a
             ast.Nonlocal, ast.Try, ast.With, ast.Match, ast.NamedExpr, ast.Div, ast.AnnAssign, ast.Assert, ast.Delete)
 
 
+COMPREHENSIONS = (ast.ListComp, ast.SetComp, ast.DictComp)
+
+
+def targets_of(node):
+    """The names that a comprehension assigns."""
+    return [part for part in ast.walk(ast.Module([step.target for step in node.generators], [])) if isinstance(part, ast.Name)]
+
+
 def trees():
     return {path.stem: ast.parse(path.read_text()) for path in FILES}
 
@@ -116,6 +124,23 @@ class Language(unittest.TestCase):
             self.assertEqual(read - local - known - BUILTINS, set())
             self.assertEqual(local & (imported | set(dir(builtins))), set())
             self.assertTrue("_" not in read)
+
+    def test_nested_comprehensions(self):
+        """A name of a comprehension in another one is not assigned further out."""
+        for name, function in nodes(ast.FunctionDef):
+            inside = {id(part) for node in ast.walk(function) if isinstance(node, COMPREHENSIONS) for part in targets_of(node)}
+            assigned = {arg.arg for arg in function.args.args} | {
+                node.id for node in ast.walk(function)
+                if isinstance(node, ast.Name) and isinstance(node.ctx, ast.Store) and id(node) not in inside}
+            for outer in [node for node in ast.walk(function) if isinstance(node, COMPREHENSIONS)]:
+                for inner in [node for node in ast.walk(outer) if isinstance(node, COMPREHENSIONS) and node is not outer]:
+                    told = {part.id for part in targets_of(inner)}
+                    known = assigned | {part.id for part in targets_of(outer)}
+                    self.assertEqual(told & known, set(), f"{name}: {inner.lineno}")
+
+    def test_classes(self):
+        for name, node in nodes(ast.ClassDef):
+            self.assertFalse(node.name.startswith("_"), name)
 
     def test_methods(self):
         own = {method.name for _, node in nodes(ast.ClassDef) for method in node.body if isinstance(method, ast.FunctionDef)}
