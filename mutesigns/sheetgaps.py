@@ -1,7 +1,7 @@
 """Which words can stand in the gaps of a sheet, over all cuttings that fit it and all grids that keep a book."""
 
 from mutesigns.books import check_book
-from mutesigns.cell_cuts import cell_cuts, does_agree, new_sign, sayings_of_word, sayings_with, sign_between
+from mutesigns.cell_cuts import cell_cuts, does_agree, new_sign, sayings_of_word, sign_between
 from mutesigns.cell_cuts import ways_against, word_with
 from mutesigns.checks import check_many, check_signs, is_list, is_name
 from mutesigns.cuttings import cuttings, sayings_cut

@@ -18,7 +18,6 @@ from mutesigns.possible import Kept, grid_of
 from mutesigns.sayings import Saying
 from support import NO_LISTS, NO_NAMES, SAME, Case
 from test_books import EIGHT
-from test_facts import sayings_of
 from test_grids import all_grids
 from test_sayings import NO_RENAMINGS
 from test_sheets import NO_WORDS

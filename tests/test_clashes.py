@@ -16,7 +16,7 @@ from mutesigns.sayings import Saying
 from mutesigns.slips import Slips, all_slips, greatest_lots, slips
 from oracles import drawn_book, drawn_sayings, is_right_tree
 from support import SAME, Case
-from test_bearing import ABC, ABCD, CROWDED, bare, book_of, broken_sets, drawn_lot_books, least, lots_in_order, refused_lots
+from test_bearing import ABC, ABCD, CROWDED, bare, book_of, drawn_lot_books, least, lots_in_order, refused_lots
 from test_books import EIGHT
 from test_facts import fact_of, sayings_of
 from test_grids import all_grids

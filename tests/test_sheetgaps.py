@@ -11,7 +11,7 @@ from mutesigns.errors import BadBook, BadSheet, BadWord, Impossible, NoEnding, N
 from mutesigns.facts import Fact
 from mutesigns.grids import Grid
 from mutesigns.papers import Denial, Paper
-from mutesigns.possible import NoGrid, grid_of
+from mutesigns.possible import NoGrid
 from mutesigns.refusing import tree_with
 from mutesigns.sayings import Saying
 from mutesigns.sheetgaps import NeverWord, NoReading, OpenWord, Reading, SureWord, reading_of, word_for, words_in
