@@ -68,10 +68,13 @@ def shows_sides(ties, tie, other, value):
 
 
 def _is_walk(ties, first, last, walk):
-    """Whether these are ties, ascending pairs, from the first to the last, each meeting the next."""
+    """Whether these are ties, ascending pairs, from the first to the last, each meeting the next.
+
+    If the first is the last, too, the walk is this one tie: no way round leads back to it.
+    """
     if not is_list(walk) or len(walk) == 0 or not all([_is_pair(ties, pair) for pair in walk]):
         return False
-    if walk[0] != first or walk[-1] != last:
+    if walk[0] != first or walk[-1] != last or (first == last and len(walk) > 1):
         return False
     return all([do_meet(one, other) for one, other in zip(walk, walk[1:])])
 

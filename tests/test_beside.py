@@ -507,6 +507,23 @@ class Shows(Case):
             for shape in (OneSide, TwoSides):
                 self.assertIs(shows(shape, walk), False)
 
+    def test_walk_from_a_tie_to_itself(self):
+        """The walk of one tie is this tie, whatever walk leads back to it: in the ties of all grids of four signs."""
+        round_about = 0
+        for ties in [FOUR_RING, CLAW, *[ties_of(grid) for grid in all_grids(ABCD)]]:
+            for tie in ties.pairs:
+                for told in (tie, tie[::-1], list(tie)):
+                    self.assertIs(shows_sides(ties, told, tie, OneSide([tie])), True)
+                    self.assertIs(shows_sides(ties, tie, told, TwoSides([tie])), False)
+                met = [other for other in ties.pairs if other != tie and set(tie) & set(other)]
+                walks = [[tie, other, tie] for other in met]
+                walks += [[tie, *two, tie] for two in itertools.permutations(met, 2) if set(two[0]) & set(two[1])]
+                for walk in [*walks, [tie, tie]]:
+                    round_about += 1
+                    for shape in (OneSide, TwoSides):
+                        self.assertIs(shows_sides(ties, tie, tie[::-1], shape(walk)), False)
+        self.assertGreater(round_about, 100)
+
     def test_walks_without_a_grid(self):
         for shape, walk, is_right in ((OneSide, [("a", "b"), ("a", "c")], False), (TwoSides, [("a", "b"), ("a", "c")], True),
                                       (OneSide, [("a", "b"), ("a", "d"), ("a", "c")], True)):
