@@ -1,7 +1,7 @@
 """Whether papers of answers, and of sayings that stand together or quarrel, are right."""
 
 from mutesigns.answers import Never, Open, Sure
-from mutesigns.check_trees import is_grid_keeping, is_tree
+from mutesigns.check_trees import are_trees, is_grid_keeping, is_tree
 from mutesigns.checks import is_list, is_numbers
 from mutesigns.facts import as_fact, contraries_of
 from mutesigns.searches import check_sought
@@ -17,15 +17,8 @@ def shows_answer(book, asked, value):
     if type(value) is Sure:
         return is_tree(book, contraries_of(fact), value.tree)
     if type(value) is Never:
-        return is_list(value.trees) and _are_trees(book, fact.sayings, value.trees)
+        return are_trees(book, [[saying] for saying in fact.sayings], value.trees)
     return type(value) is Open and _is_open(book, fact, value.one, value.other)
-
-
-def _are_trees(book, sayings, trees):
-    """Whether these are refusing trees, one for each saying standing besides."""
-    if len(trees) != len(sayings):
-        return False
-    return all([is_tree(book, [saying], tree) for saying, tree in zip(sayings, trees)])
 
 
 def _is_open(book, fact, one, other):

@@ -1,7 +1,7 @@
 """Whether papers of fewest and most rows and columns, and of least shapes, are right."""
 
 from mutesigns.books import check_book
-from mutesigns.check_trees import is_grid_keeping, is_tree
+from mutesigns.check_trees import are_trees, is_grid_keeping, is_tree
 from mutesigns.checks import check_side, is_list
 from mutesigns.extremes import Fewest, Most, Shapes
 from mutesigns.tightened import crowds, fewer_book, shape_books
@@ -25,12 +25,9 @@ def shows_most(book, side, value):
     """Whether any value is a right Most of a side."""
     check_book(book)
     check_side(side)
-    if type(value) is not Most or not is_grid_keeping(book, [], value.grid) or not is_list(value.trees):
+    if type(value) is not Most or not is_grid_keeping(book, [], value.grid):
         return False
-    lots = crowds(side, value.grid)
-    if len(value.trees) != len(lots):
-        return False
-    return all([is_tree(book, sayings, tree) for sayings, tree in zip(lots, value.trees)])
+    return are_trees(book, crowds(side, value.grid), value.trees)
 
 
 def shows_shapes(book, value):

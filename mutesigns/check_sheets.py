@@ -1,7 +1,7 @@
 """Whether papers of readings, and of words in the cells of sheets, are right."""
 
 from mutesigns.cell_cuts import CellCut, cell_cuts, does_agree, sayings_of_word, ways_against, word_with
-from mutesigns.check_trees import is_grid_keeping, is_tree
+from mutesigns.check_trees import are_trees, is_grid_keeping, is_tree
 from mutesigns.checks import is_list
 from mutesigns.cuttings import Cutting, cuttings, does_fit, sayings_cut
 from mutesigns.sheetgaps import NeverWord, NoReading, OpenWord, Reading, SureWord, book_for, check_reading, check_word
@@ -14,10 +14,7 @@ def shows_reading(book, sheet, value):
         return _is_reading(book, sheet, value)
     if type(value) is not NoReading:
         return False
-    told = [sayings_cut(sheet, cutting) for cutting in cuttings(sheet)]
-    if not is_list(value.trees) or len(value.trees) != len(told):
-        return False
-    return all([is_tree(book, sayings, tree) for sayings, tree in zip(told, value.trees)])
+    return are_trees(book, [sayings_cut(sheet, cutting) for cutting in cuttings(sheet)], value.trees)
 
 
 def _is_reading(book, sheet, value):
@@ -54,10 +51,8 @@ def _is_row(book, cut, word, row):
         return False
     if len(row) == 1 and is_tree(book, cut.standing, row[0]):
         return True
-    ways = ways_against(book, cut, word)
-    if not does_agree(cut, word) or len(row) != len(ways):
-        return False
-    return all([is_tree(book, cut.standing + sayings, tree) for sayings, tree in zip(ways, row)])
+    ways = [cut.standing + sayings for sayings in ways_against(book, cut, word)]
+    return does_agree(cut, word) and are_trees(book, ways, row)
 
 
 def _is_refused(book, cut, word, tree):

@@ -2,7 +2,7 @@
 
 from mutesigns.books import check_book
 from mutesigns.breaking import are_ascending, is_break_in
-from mutesigns.checks import SIDES, is_side, is_within
+from mutesigns.checks import SIDES, is_list, is_side, is_within
 from mutesigns.grids import Grid
 from mutesigns.papers import fixed
 from mutesigns.possible import Kept, NoGrid
@@ -13,12 +13,23 @@ from mutesigns.states import Board, partings_in, state_of, state_with
 def is_tree(book, sayings, value):
     """Whether any value is a refusing tree of the book with the sayings standing besides."""
     check_standing(book, sayings)
-    rows = fixed(value)
+    board = Board(book)
+    return is_tree_from(board, state_of(board, book, sayings), fixed(value))
+
+
+def is_tree_from(board, state, rows):
+    """Whether a value, lists in it told as tuples, is a refusing tree for what stands."""
     if not isinstance(rows, tuple) or len(rows) == 0:
         return False
-    board = Board(book)
-    leaves = leaves_of(board, state_of(board, book, sayings), rows)
-    return leaves is not None and all([is_break_in(board, state, partings_in(state), row) for row, state in leaves])
+    leaves = leaves_of(board, state, rows)
+    return leaves is not None and all([is_break_in(board, there, partings_in(there), row) for row, there in leaves])
+
+
+def are_trees(book, lots, trees):
+    """Whether any value is a list of refusing trees of the book, one for each list of sayings standing besides."""
+    if not is_list(trees) or len(trees) != len(lots):
+        return False
+    return all([is_tree(book, sayings, tree) for sayings, tree in zip(lots, trees)])
 
 
 def leaves_of(board, state, rows):

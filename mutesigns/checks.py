@@ -92,6 +92,24 @@ def first_twice(values):
     return None if at is None else values[at]
 
 
+def is_just(value, told):
+    """Whether any value is just what is told: strings, integers, truths, None, and tuples of these.
+
+    So 1 is not taken for True, nor any object for what it says that it equals.
+    """
+    if isinstance(told, tuple):
+        if not isinstance(value, tuple) or len(value) != len(told):
+            return False
+        return all([is_just(part, wanted) for part, wanted in zip(value, told)])
+    if told is None:
+        return value is None
+    if is_truth(told):
+        return is_truth(value) and value == told
+    if is_integer(told):
+        return is_integer(value) and value == told
+    return isinstance(value, str) and value == told
+
+
 def check_side(side):
     """Raises BadSide for what is no side."""
     if not is_side(side):

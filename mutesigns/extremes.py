@@ -2,11 +2,9 @@
 
 from mutesigns.books import check_book
 from mutesigns.checks import check_side
-from mutesigns.errors import Impossible
 from mutesigns.listed import grid_listed
-from mutesigns.listing import listed_grids
 from mutesigns.papers import Paper
-from mutesigns.possible import NoGrid
+from mutesigns.possible import listed_kept
 from mutesigns.searches import refusing_tree
 from mutesigns.shapes import shapes_in
 from mutesigns.tightened import crowds, fewer_book, shape_books
@@ -43,7 +41,7 @@ def fewest_of(book, side):
     """The Fewest of a side."""
     check_book(book)
     check_side(side)
-    grid = _grid_by(_listed_kept(book), side, True)
+    grid = _grid_by(listed_kept(book, None), side, True)
     return Fewest(grid, _tree_of(fewer_book(book, side, grid)))
 
 
@@ -51,25 +49,17 @@ def most_of(book, side):
     """The Most of a side."""
     check_book(book)
     check_side(side)
-    grid = _grid_by(_listed_kept(book), side, False)
+    grid = _grid_by(listed_kept(book, None), side, False)
     return Most(grid, [refusing_tree(book, sayings) for sayings in crowds(side, grid)])
 
 
 def least_shapes(book):
     """The Shapes."""
     check_book(book)
-    listed = _listed_kept(book)
+    listed = listed_kept(book, None)
     shapes = shapes_in(listed)
     found = [grid_listed(listed, listed.masks[shapes.index(shape)]) for shape in _least_of(sorted(set(shapes)))]
     return Shapes(found, [_tree_of(tight) for tight in shape_books(book, found)])
-
-
-def _listed_kept(book):
-    """All grids that keep a Book; raises TooMany, Impossible if there is none."""
-    listed = listed_grids(book)
-    if not listed.masks:
-        raise Impossible(NoGrid(refusing_tree(book, [])))
-    return listed
 
 
 def _grid_by(listed, side, is_fewest):

@@ -18,6 +18,12 @@ class Listed:
         return bits_told(self.bits, [self.board.by_numbers(saying) for saying in sayings])
 
 
+def bits_of_grid(board, bits, grid):
+    """The bits that tell a grid of the signs of the board."""
+    alike, _ = bits_told(bits, [board.by_numbers(saying) for saying in grid.sayings()])
+    return alike
+
+
 def grid_listed(listed, mask):
     """The Grid that these bits tell."""
     columns, rows = [lines_in(mask, listed.bits, side, len(listed.board.signs)) for side in range(2)]

@@ -4,7 +4,7 @@ from mutesigns.books import check_book
 from mutesigns.checks import check_many, check_signs, is_list, is_within
 from mutesigns.errors import BadGrid, BadNumber, Misfit
 from mutesigns.grids import Grid, check_grid
-from mutesigns.listed import Listed, grid_listed
+from mutesigns.listed import Listed, bits_of_grid, grid_listed
 from mutesigns.searches import MOST_SOUGHT
 
 MOST_LISTED = 400
@@ -46,7 +46,7 @@ def number_of(book, grid):
     if grid.signs != book.signs:
         raise Misfit("signs")
     listed = listed_grids(book)
-    mask, _ = listed.bits_for(grid.sayings())
+    mask = bits_of_grid(listed.board, listed.bits, grid)
     return listed.masks.index(mask) if mask in listed.masks else None
 
 

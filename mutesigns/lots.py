@@ -42,6 +42,16 @@ def are_apart(one, other):
     return not any([number in other for number in one])
 
 
+def is_part(lot, whole):
+    """Whether a lot has no number that the whole one has not."""
+    return all([number in whole for number in lot])
+
+
+def lot_order(lot):
+    """The pair by which lots are ordered: fewer numbers first, equally many as tuples."""
+    return (len(lot), lot)
+
+
 def none_to_spare(lots):
     """Those of the lots of which no lot is left, in these lots, when one number is taken out."""
     told = set(lots)

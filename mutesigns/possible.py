@@ -1,9 +1,11 @@
 """Whether some grid keeps a book."""
 
 from mutesigns.books import check_book
+from mutesigns.checks import check_many
 from mutesigns.errors import Impossible
+from mutesigns.listing import listed_grids
 from mutesigns.papers import Denial, Paper
-from mutesigns.searches import Search, check_sought, grid_where, tree_where
+from mutesigns.searches import Search, check_sought, grid_where, refusing_tree, tree_where
 
 
 class Kept(Paper):
@@ -29,6 +31,30 @@ def grid_of(book):
     search = Search(book)
     grid = grid_where(search, [])
     return NoGrid(tree_where(search, [])) if grid is None else Kept(grid)
+
+
+def listed_kept(book, most):
+    """All grids that keep a Book; raises TooMany as listed_within, Impossible if no grid keeps it."""
+    listed = listed_within(book, most)
+    check_listed(listed, book)
+    return listed
+
+
+def listed_within(book, most):
+    """All grids that keep a Book, perhaps none; raises TooMany for more signs than are listed, or more grids than most.
+
+    None for most is no bound.
+    """
+    listed = listed_grids(book)
+    if most is not None:
+        check_many("grids", len(listed.masks), most)
+    return listed
+
+
+def check_listed(listed, book):
+    """Raises Impossible if no grid that keeps the book is listed."""
+    if not listed.masks:
+        raise Impossible(NoGrid(refusing_tree(book, [])))
 
 
 def search_kept(book):

@@ -28,7 +28,7 @@ class Values:
         """All Sayings that they tell, ascending."""
         told = dict(self.pairs)
         twos = [(side, one, other) for side in SIDES for one, other in twos_of(self.signs)]
-        return tuple([Saying(side, one, other, _letter_on(side, told[one]) == _letter_on(side, told[other]))
+        return tuple([Saying(side, one, other, letter_on(side, told[one]) == letter_on(side, told[other]))
                       for side, one, other in twos])
 
     def fits(self, grid):
@@ -64,6 +64,6 @@ def _check_pairs(pairs):
         values.add(value)
 
 
-def _letter_on(side, value):
+def letter_on(side, value):
     """What a value has on a side: its consonant, or its vowel."""
     return consonant_of(value) if side == "row" else vowel_of(value)

@@ -68,7 +68,9 @@ def tupled(value):
 
 
 def is_fork(book, row):
-    return (isinstance(row, tuple) and len(row) == 5 and row[0] in SIDES and row[1] in book.signs
+    if not isinstance(row, tuple) or not all(type(part) is str for part in row[:3]):
+        return False
+    return (len(row) == 5 and row[0] in SIDES and row[1] in book.signs
             and row[2] in book.signs and row[1] < row[2] and all(type(number) is int for number in row[3:]))
 
 

@@ -2,8 +2,8 @@
 
 import unittest
 
-from mutesigns.checks import first_twice, is_integer, is_name, is_numbers, is_side, is_truth, is_within, is_word
-from support import NO_INTEGERS, NO_NAMES, NO_SIDES
+from mutesigns.checks import first_twice, is_integer, is_just, is_name, is_numbers, is_side, is_truth, is_within, is_word
+from support import NO_INTEGERS, NO_NAMES, NO_SIDES, SAME
 
 ODD = [None, True, False, 0, 1, -1, 1.0, "", "a", "row", b"a", [], (), ["a"], ("a",), {}, {"a": "b"}, {1}, object(), len]
 
@@ -60,6 +60,12 @@ class Checks(unittest.TestCase):
                          [True, True, False, False])
         for value in NO_INTEGERS:
             self.assertIs(is_numbers([0, value]), False)
+
+    def test_just(self):
+        told = [("length", 0), "a", 0, 1, True, False, None, (), (("a", (1, None)), ("b", True))]
+        for one in told:
+            for other in [*told, 1.0, 0.0, SAME, [], ["length", 0], ("length", False), (("a", (True, None)), ("b", 1)), (SAME, 0), b"a"]:
+                self.assertIs(is_just(other, one), repr(one) == repr(other))
 
     def test_first_twice(self):
         self.assertEqual(first_twice(["a", "b", "c", "b", "a"]), "b")

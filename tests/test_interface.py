@@ -80,6 +80,26 @@ FUNCTIONS = {
         "values_of": "(namings)", "stand": "(book, namings)", "ways_for": "(book, word, heard)",
         "gives_away": "(book, namings)", "all_given": "(book, namings)", "lots_standing": "(book, namings)",
     },
+    "check_namings": {
+        "shows_stand": "(book, namings, value)", "shows_given": "(book, namings, value)",
+        "shows_lots": "(book, namings, value)",
+    },
+    "readings": {"read_in": "(grid, known)", "next_known": "(grid, known)"},
+    "known": {"fewest_known": "(grid)", "all_fewest_known": "(grid)"},
+    "enough": {"enough": "(book, known)", "fewest_enough": "(book)"},
+    "lettered": {"letters_for": "(book, values, side, sign)", "sounds_of": "(book, values, word)"},
+    "check_reading": {
+        "shows_fewest_known": "(grid, value)", "shows_enough": "(book, known, value)",
+        "shows_fewest_enough": "(book, value)", "shows_letters": "(book, values, side, sign, value)",
+    },
+    "turnings": {"leads": "(turning, book, other)"},
+    "unparted": {
+        "turnings": "(book)", "like_signs": "(book)", "like_pairs": "(book)",
+        "turning_to": "(book, other, pairs=(), is_crossed=None)",
+    },
+    "check_turnings": {
+        "shows_leads": "(turning, book, other, value)", "shows_turning_to": "(book, other, pairs, is_crossed, value)",
+    },
 }
 
 CLASSES = {
@@ -182,10 +202,26 @@ CLASSES = {
         "Barred": {"__init__": "(self, tree)"}, "NothingGiven": {"__init__": "(self, trees)"},
         "Given": {"__init__": "(self, saying, grid)"}, "Lots": {"__init__": "(self, greatest, barred)"},
     },
+    "known": {"FewestKnown": {"__init__": "(self, signs, lines)"}},
+    "enough": {
+        "Enough": {"__init__": "(self, rows)"}, "FewestEnough": {"__init__": "(self, signs, rows, denials)"},
+        "Unread": {"__init__": "(self, grid, side, sign)"}, "Twofold": {"__init__": "(self, one, other)"},
+    },
+    "lettered": {"Letters": {"__init__": "(self, rows, new)"}},
+    "turnings": {
+        "Turning": {
+            "__init__": "(self, names, is_crossed=False)", "made": "(self, value)", "back": "(self)",
+            "then": "(self, other)", "__eq__": "(self, other)",
+        },
+        "Leads": {"__init__": "(self, trees, back)"}, "Astray": {"__init__": "(self, grid, is_back)"},
+    },
+    "unparted": {
+        "Led": {"__init__": "(self, turning, trees, back)"}, "Unled": {"__init__": "(self, grids, others)"},
+    },
 }
 
 DENIALS = {"Denial", "NoChain", "Broken", "NoGrid", "Never", "Quarrel", "Unborne", "Clash", "NoReading", "NeverWord", "Claw",
-           "Diamond", "Ring", "TwoSides", "Muddled", "Barred", "Given"}
+           "Diamond", "Ring", "TwoSides", "Muddled", "Barred", "Given", "Unread", "Twofold", "Astray", "Unled"}
 
 
 class Interface(unittest.TestCase):
