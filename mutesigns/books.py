@@ -136,14 +136,14 @@ def _book_parts(book):
     return (book.signs, book.facts, book.most_rows, book.most_columns)
 
 
-def _bound_item(bound):
+def bound_item(bound):
     """The item of a bound."""
     return "-" if bound is None else str(bound)
 
 
 def book_items(book):
     """The items of its text."""
-    bounds = [_bound_item(book.most_rows), _bound_item(book.most_columns)]
+    bounds = [bound_item(book.most_rows), bound_item(book.most_columns)]
     told = [item for fact in book.facts for item in ["/"] + fact_items(fact)]
     return [*book.signs, ":", *bounds, ":"] + (told[1:] if told else ["-"])
 
@@ -152,13 +152,13 @@ def read_book(items):
     """Reads a Book, as far as an item that cannot belong to it; whoever reads on refuses this."""
     signs = read_signs(items, MOST_SIGNS)
     items.take_word(":")
-    most_rows = _read_bound(items)
-    most_columns = _read_bound(items)
+    most_rows = read_bound(items)
+    most_columns = read_bound(items)
     items.take_word(":")
     return Book(signs, _read_facts(items, signs), most_rows, most_columns)
 
 
-def _read_bound(items):
+def read_bound(items):
     """Reads a bound, `-` for none."""
     if items.ahead() == "-":
         items.take_word("-")

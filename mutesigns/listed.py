@@ -1,5 +1,6 @@
 """All grids that keep a book of few signs, listed by their bits."""
 
+from mutesigns.checks import SIDES
 from mutesigns.grids import Grid
 from mutesigns.masks import bits_told, kept_masks, lines_in, pair_bits
 from mutesigns.states import Board
@@ -16,6 +17,12 @@ class Listed:
     def bits_for(self, sayings):
         """The pair of the bits that sayings of its signs tell to be set, and of those that they tell not to be."""
         return bits_told(self.bits, [self.board.by_numbers(saying) for saying in sayings])
+
+
+def ask_bit(listed, ask):
+    """The bit that tells whether a grid answers an ask (side, one, other) with alike."""
+    side, one, other = ask
+    return listed.bits[(SIDES.index(side), listed.board.numbers[one], listed.board.numbers[other])]
 
 
 def bits_of_grid(board, bits, grid):

@@ -28,19 +28,19 @@ class Items:
     def __init__(self, text):
         if not isinstance(text, str):
             raise BadText(0, 0)
-        self.told = text.split(" ")
+        self.texts = text.split(" ")
         self.at = 0
 
     def ahead(self):
         """The next item, None behind the last one."""
-        return self.told[self.at] if self.at < len(self.told) else None
+        return self.texts[self.at] if self.at < len(self.texts) else None
 
     def take(self, can_stand):
         """The next item, which is read by this, if it can stand."""
         if not can_stand:
             raise BadText(0, self.at)
         self.at += 1
-        return self.told[self.at - 1]
+        return self.texts[self.at - 1]
 
     def take_word(self, word):
         """Reads this very word."""

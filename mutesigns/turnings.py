@@ -103,7 +103,8 @@ def leads(turning, book, other):
         grid = grid_where(search, told)
         if grid is not None:
             return Astray(grid, False)
-    return Leads(*led_trees(turning, book, other))
+    trees, back = led_trees(turning, book, other)
+    return Leads(trees, back)
 
 
 def check_led(turning, book, other):

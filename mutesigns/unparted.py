@@ -98,7 +98,8 @@ def turning_to(book, other, pairs=(), is_crossed=None):
             strays = _strays(turn, listed, others)
             if strays == (None, None):
                 turning = turning_told(turn, book, other)
-                return Led(turning, *led_trees(turning, book, other))
+                trees, back = led_trees(turning, book, other)
+                return Led(turning, trees, back)
             told = [[*masks, mask] if mask is not None else masks for masks, mask in zip(told, strays)]
     return Unled([grid_listed(listed, mask) for mask in told[0]], [grid_listed(others, mask) for mask in told[1]])
 

@@ -100,6 +100,21 @@ FUNCTIONS = {
     "check_turnings": {
         "shows_leads": "(turning, book, other, value)", "shows_turning_to": "(book, other, pairs, is_crossed, value)",
     },
+    "asks": {
+        "asks_of": "(book)", "answers_of": "(grid, asks)", "rows_had": "(book, asks)",
+        "settles": "(book, saying, asks)", "least_lot": "(book, saying, asks)",
+    },
+    "asktrees": {"best_ask": "(book)", "grid_plan": "(book)", "saying_plan": "(book, saying, asks)"},
+    "check_asks": {
+        "shows_settles": "(book, saying, asks, value)", "shows_least_lot": "(book, saying, asks, value)",
+        "shows_best_ask": "(book, value)", "shows_grid_plan": "(book, value)",
+        "shows_saying_plan": "(book, saying, asks, value)",
+    },
+    "scribe": {"written": "(grid, stems, endings)", "squares": "(words)"},
+    "desk_lines": {"read_line": "(line)"},
+    "desk_deeds": {"changed": "(shelf, line)"},
+    "desk_asks": {"answer_of": "(shelf, line)"},
+    "stories": {"replay": "(lines)", "parting": "(one, other)"},
 }
 
 CLASSES = {
@@ -218,10 +233,27 @@ CLASSES = {
     "unparted": {
         "Led": {"__init__": "(self, turning, trees, back)"}, "Unled": {"__init__": "(self, grids, others)"},
     },
+    "asks": {
+        "Settles": {"__init__": "(self, rows)"}, "Unsettled": {"__init__": "(self, one, other)"},
+        "LeastLot": {"__init__": "(self, numbers, rows, pairs)"},
+    },
+    "asktrees": {
+        "BestAsk": {"__init__": "(self, ask, table)"}, "OneGrid": {"__init__": "(self, grid)"},
+        "Plan": {"__init__": "(self, depth, tree)"},
+    },
+    "shelves": {"Shelf": {"__init__": "(self, things=())", "thing": "(self, name)", "__eq__": "(self, other)"}},
+    "desk": {
+        "Desk": {
+            "__init__": "(self)", "told": "(self, *lines)", "__call__": "(self, line)", "tried": "(self, *lines)",
+            "undo": "(self)", "redo": "(self)", "twin": "(self)", "__len__": "(self)", "__contains__": "(self, value)",
+            "__eq__": "(self, other)",
+        },
+    },
 }
 
 DENIALS = {"Denial", "NoChain", "Broken", "NoGrid", "Never", "Quarrel", "Unborne", "Clash", "NoReading", "NeverWord", "Claw",
-           "Diamond", "Ring", "TwoSides", "Muddled", "Barred", "Given", "Unread", "Twofold", "Astray", "Unled"}
+           "Diamond", "Ring", "TwoSides", "Muddled", "Barred", "Given", "Unread", "Twofold", "Astray", "Unled",
+           "Unsettled"}
 
 
 class Interface(unittest.TestCase):

@@ -19,7 +19,7 @@ METHODS = set(
 DOUBLE = {"__init__", "__eq__", "__str__", "__len__", "__bool__", "__call__", "__contains__"}
 LIBRARY = {"heapq", "math", "itertools", "collections"}
 NO_NODES = (ast.GeneratorExp, ast.Lambda, ast.Yield, ast.YieldFrom, ast.Await, ast.AsyncFunctionDef, ast.Global,
-            ast.Nonlocal, ast.Try, ast.With, ast.Match, ast.NamedExpr, ast.Div, ast.AnnAssign, ast.Assert, ast.Delete)
+            ast.Nonlocal, ast.With, ast.Match, ast.NamedExpr, ast.Div, ast.AnnAssign, ast.Assert, ast.Delete)
 
 
 COMPREHENSIONS = (ast.ListComp, ast.SetComp, ast.DictComp)
@@ -79,6 +79,29 @@ class Language(unittest.TestCase):
             is_class = ast.unparse(node.left).startswith("type(")
             self.assertTrue(is_class or isinstance(right, ast.Constant), node.lineno)
 
+    def test_handlers(self):
+        """Only the errors of the package are caught, where a desk tells which line failed."""
+        for name, node in nodes(ast.Try):
+            self.assertIn(name, ("desk", "stories"))
+            self.assertEqual([ast.unparse(handler.type) for handler in node.handlers], ["SignError"])
+            self.assertEqual((len(node.body), node.orelse, node.finalbody), (1, [], []))
+
+    def test_stars(self):
+        """Behind the star of a call stands a name, or an attribute off a name."""
+        for name, node in nodes(ast.Call):
+            for value in [part.value for part in node.args if isinstance(part, ast.Starred)]:
+                self.assertTrue(isinstance(value, ast.Name) or isinstance(value, ast.Attribute) and isinstance(value.value, ast.Name),
+                                f"{name}: {node.lineno}")
+
+    def test_sets(self):
+        """A set stands in a place of its own, and beside no keyword."""
+        for name, node in nodes(ast.Call):
+            told = [part for part in node.args if isinstance(part, ast.SetComp)
+                    or isinstance(part, ast.Call) and ast.unparse(part.func) == "set"]
+            if told:
+                self.assertIn(ast.unparse(node.func), ("sorted", "len"), f"{name}: {node.lineno}")
+                self.assertEqual(node.keywords, [], f"{name}: {node.lineno}")
+
     def test_constants(self):
         for name, node in nodes(ast.Constant):
             self.assertNotIsInstance(node.value, (float, bytes, complex))
@@ -119,6 +142,7 @@ class Language(unittest.TestCase):
         args = function.args
         local = {arg.arg for arg in args.args + args.kwonlyargs + [args.vararg, args.kwarg] if arg is not None}
         local |= {node.id for node in ast.walk(function) if isinstance(node, ast.Name) and isinstance(node.ctx, ast.Store)}
+        local |= {node.name for node in ast.walk(function) if isinstance(node, ast.ExceptHandler)}
         read = {node.id for node in ast.walk(function) if isinstance(node, ast.Name) and isinstance(node.ctx, ast.Load)}
         with self.subTest(file=file, function=function.name):
             self.assertEqual(read - local - known - BUILTINS, set())
