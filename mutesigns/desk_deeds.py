@@ -2,14 +2,11 @@
 
 from mutesigns.books import bound_item
 from mutesigns.desk_lines import DEEDS, read_line_of
-from mutesigns.errors import Twice
 from mutesigns.shelves import Shelf, book_under, check_shelf, sheet_under
 
 
 def _put(shelf, name, thing):
-    """Keeps the thing, behind the others."""
-    if name in shelf.names:
-        raise Twice(name)
+    """Keeps the thing, behind the others; a Shelf refuses a name under which something is kept."""
     return _with_many(Shelf([*shelf.things, (name, thing)]))
 
 

@@ -18,7 +18,7 @@ def places_fitting(book, other, pairs, is_crossed):
     """All turnings by numbers, ascending, that fit two books, have these pairs, and are crossed as told."""
     ways = ways_to_cross(book, other, is_crossed)
     wanted = [(book.signs.index(sign), other.signs.index(name)) for sign, name in pairs]
-    return [Places(places, way) for places in permutations(list(range(len(book.signs))))
+    return [Places(places, way) for places in permutations(range(len(book.signs)))
             if all([places[sign] == name for sign, name in wanted]) for way in ways]
 
 

@@ -488,6 +488,24 @@ class Plans(Case):
         for tree in ((right.tree[0], right.tree[2], right.tree[1]), right.tree[1], (right.tree[0], one, one), (right.tree[0], right.tree, right.tree), one, ()):
             self.assertIs(shows_grid_plan(book, Plan(2, tree)), False)
 
+    def test_some_each(self):
+        """An ask that all grids at its place answer alike is none of a plan, also where this makes the plan no deeper."""
+        two = Book(["a", "b"])
+        kept = kept_grids(two)
+        row, column = ("row", "a", "b"), ("column", "a", "b")
+        one, other = (next(grid for grid in kept if row_by(grid, [ask]) == (True,)) for ask in (column, row))
+        free = next(grid for grid in kept if row_by(grid, [row, column]) == (False, False))
+        self.assertIs(shows_grid_plan(two, Plan(2, (column, one, (row, other, free)))), True)
+        for leaf in (*kept, None):
+            self.assertIs(shows_grid_plan(two, Plan(2, (column, (row, leaf, one), (row, other, free)))), False)
+            self.assertIs(shows_grid_plan(two, Plan(2, (column, (column, one, leaf), (row, other, free)))), False)
+        holds, asks = Saying("row", "a", "b", False), [row, column]
+        three = Book(["a", "b", "c"], sayings_of("row a b", "row b c"))
+        for leaf in (True, False, None):
+            for tree in ((row, (row, False, leaf), True), (row, False, (row, leaf, True)), (row, (column, leaf, False), True)):
+                self.assertIs(shows_saying_plan(two, holds, asks, Plan(2, tree)), False)
+            self.assertIs(shows_saying_plan(three, holds, asks, Plan(1, (column, leaf, False))), False)
+
     def leaves(self, tree):
         return [*self.leaves(tree[1]), *self.leaves(tree[2])] if is_row(tree) else [tree]
 

@@ -320,6 +320,10 @@ class Bent(Case):
             self.assertIs(shows_enough(BENT, known, Enough([fork, ("read", told), ("read", told)])), is_right, fork)
         self.assertIs(shows_enough(BENT, ["k", "l", "x"], Enough([("row", "k", "x", 1, 2), ("read", ()), ("read", ())])), True)
         self.assertIs(shows_enough(BENT, known, Enough([("row", "k", "l", 1, 2), ("read", told)])), False)
+        first = Book(["a", "k", "l"], sayings_of("row a k", "column a l"))
+        told = enough(first, known).rows[0][1]
+        for fork, is_right in ((("row", "k", "l", 1, 2), True), (("row", "a", "k", 1, 2), False), (("column", "a", "l", 1, 2), False)):
+            self.assertIs(shows_enough(first, known, Enough([fork, ("read", told), ("read", told)])), is_right, fork)
 
     def test_denials(self):
         one, other = kept_grids(FOUR)[:2]
