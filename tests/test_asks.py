@@ -228,6 +228,22 @@ class Settling(Case):
                 kinds.append(type(found))
         self.assertEqual(set(kinds), {Settles, LeastLot, Unsettled})
 
+    def test_largest(self):
+        """A book that 15125 grids keep, six asks: answered soon."""
+        six = EIGHT[:6]
+        book = Book(six, [], 6)
+        self.assertEqual(many_grids(book), 15125)
+        chain = [("row", one, other) for one, other in zip(six, six[1:])]
+        for asks, saying, right in ((chain + [("row", "a", "c")], Saying("row", "b", "c"), (1,)), (chain, Saying("row", "a", "f"), None),
+                                    (plain_asks(six)[:6], Saying("row", "a", "b"), None), (chain[:2] + [("column", "a", "c")], Saying("row", "a", "c"), None),
+                                    ([("column", "a", "b"), ("row", "a", "b"), ("row", "c", "d")], Saying("column", "a", "b", False), (0,))):
+            for call, shows in ((settles, shows_settles), (least_lot, shows_least_lot)):
+                found = call(book, saying, asks)
+                self.assertIs(bool(found), right is not None)
+                self.assertIs(shows(book, saying, asks, found), True)
+            if right:
+                self.assertEqual(found.numbers, right)
+
     def test_bent_settles(self):
         self.bend(shows_settles, is_settles, [(*one, settles(one[0], *one[2:])) for one in drawn_asked(9, 250)], 10)
 

@@ -437,6 +437,37 @@ class Desks(Case):
         self.assertEqual((desk("show a"), len(replay(desk.story))), ("book k m : - - : -", 1))
 
 
+class Largest(Case):
+    def test_many_things_and_long_lines(self):
+        desk = Desk()
+        lines = [f"put n{number} book a b : - - : row a b" for number in range(150)]
+        self.assertEqual(desk.told(*lines)[-1], "150")
+        self.assertEqual(len(desk("names").split(" ")), 150)
+        self.refuses(Twice(0), desk, "strike n0" + " 0" * 40000)
+        self.refuses(BadText(0, 40002), desk, "strike n0" + " 0" * 40000 + " x")
+        self.refuses(BadText(0, 2), desk, "is n0 " + "row" * 30000)
+        self.assertEqual(desk("strike n0 0"), "0")
+        self.assertEqual([desk.undo() for _ in range(151)][-1], lines[0])
+
+    def test_largest_books(self):
+        """Books of six signs that are not plain, plain ones of eight, with eight facts: answered soon."""
+        six = "a b c d e f : 3 4 : row a b or row c d / not row a c / column b d or column e f / not column a e or row b f"
+        eight = "a b c d e f g h : - - : row a b / row b c / column a d / column d e / row f g / column f h / not row a f / not column b g"
+        desk = Desk()
+        desk.told(f"put six book {six}", f"put eight book {eight}")
+        self.assertEqual(desk("kept six"), "yes")
+        self.assertEqual(desk("grids six"), str(many_grids(Book.read(six))))
+        for line in ("is six row a b or row a c", "with six row a", "bears six not row a c", "slips six", "kept eight", "is eight row a h",
+                     "with eight column a", "bears eight not row c f", "slips eight"):
+            self.assertEqual(desk(line), plain_answer(desk.shelf.things, line))
+        desk.told("put s sheet one two / e f : a b d -", "put five book a b c d e : 3 4 : row a b or row c d / not row a c")
+        desk.told("put seven book a b c d e f g : - - : row a c / column d f", "put t sheet one two / e f : a+b a+b+c d+b -")
+        for line in ("stand five s two f", "stand seven s two f", "stand seven t two f"):
+            self.assertEqual(desk(line), plain_answer(desk.shelf.things, line))
+        self.assertEqual([desk(line) for line in ("stand five s two f", "stand seven s two f", "stand seven t two f")],
+                         ["c / e / ?", "e / g / ?", "d+b+c"])
+
+
 class Stories(Case):
     def test_replay(self):
         for seed in range(12):
