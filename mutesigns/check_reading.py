@@ -3,7 +3,7 @@
 from mutesigns.books import check_book
 from mutesigns.breaking import are_ascending
 from mutesigns.check_trees import is_fork, is_grid_keeping, is_tree, is_tree_from, leaves_of
-from mutesigns.checks import again_at, is_just, is_list, is_one_of, is_side
+from mutesigns.checks import SIDES, again_at, is_just, is_list, is_one_of, is_side
 from mutesigns.enough import Enough, FewestEnough, Twofold, Unread
 from mutesigns.grids import Grid, check_grid
 from mutesigns.known import FewestKnown
@@ -96,8 +96,8 @@ def _is_mark(board, state, known, sign, mark):
     """Whether a mark tells a sign, and on each side a known one from which trees show that it cannot be apart."""
     if not is_list(mark) or len(mark) != 5 or not is_just(mark[0], sign):
         return False
-    return _is_read_by(board, state, known, ("row", sign), mark[1:3]) and _is_read_by(
-        board, state, known, ("column", sign), mark[3:5])
+    shown = {"row": mark[1:3], "column": mark[3:5]}
+    return all([_is_read_by(board, state, known, (side, sign), shown[side]) for side in SIDES])
 
 
 def _is_read_by(board, state, known, asked, shown):

@@ -25,8 +25,9 @@ def shows_leads(turning, book, other, value):
 
 def _are_leading(turning, book, other, paper):
     """Whether the trees of a paper show that a turning that fits leads a book to the other, and so back."""
-    return are_trees(other, led_lots(turning, book), paper.trees) and are_trees(
-        book, led_lots(turning.back(), other), paper.back)
+    if not are_trees(other, led_lots(turning, book), paper.trees):
+        return False
+    return are_trees(book, led_lots(turning.back(), other), paper.back)
 
 
 def _is_astray(turning, book, other, grid):
