@@ -9,12 +9,14 @@ from mutesigns.books import Book
 from mutesigns.check_namings import shows_given, shows_lots, shows_stand
 from mutesigns.errors import BadBook, BadNaming, NoSign, TooMany
 from mutesigns.grids import Grid
-from mutesigns.namings import Barred, Given, Lots, Muddled, NothingGiven, Stands, gives_away, lots_standing, stand
+from mutesigns.namings import Barred, Given, Lots, Muddled, Naming, NothingGiven, Stands, gives_away, lots_standing, stand
+from mutesigns.namings import values_of
 from mutesigns.papers import Denial, Paper
 from mutesigns.possible import Kept, grid_of
 from mutesigns.refusing import tree_with
 from mutesigns.sayings import Saying
 from mutesigns.values import Values
+from mutesigns.ways import exchanged
 from oracles import drawn_book, drawn_sayings, kept_grids
 from support import NO_LISTS, SAME, Case
 from test_bearing import lots_in_order
@@ -215,6 +217,38 @@ class Shown(Case):
                 found = lots_standing(book, namings)
                 self.assertIs(shows_lots(book, namings, found), True)
                 self.assertIs(shows_lots(book, namings, Lots(found.greatest[1:], found.barred)), False)
+
+
+class Facts(Case):
+    def test_parts_of_lots(self):
+        """Each part of a lot that stands stands: the lots that stand are just the parts of greatest ones."""
+        for book, kept, namings in drawn_named(25, 60, 4):
+            greatest = [set(lot) for lot, grid in lots_standing(book, namings).greatest]
+            for lot in lots_in_order(len(namings))[1:]:
+                found = stand(book, [namings[at] for at in lot])
+                self.assertIs(type(found) is Stands, any(set(lot) <= whole for whole in greatest))
+
+    def test_letters_exchanged(self):
+        """With letters exchanged other heard words stand just as well, and give away just the same."""
+        for book, kept, namings in drawn_named(26, 80, 3):
+            for one, other in (("k", "s"), ("a", "o"), ("k", "t")):
+                others = [Naming(naming.word, exchanged(naming.heard, one, other), naming.way) for naming in namings]
+                found, there = stand(book, namings), stand(book, others)
+                self.assertIs(type(found), type(there))
+                self.assertEqual(told_by(namings), told_by(others))
+                if found:
+                    self.assertEqual(gives_away(book, namings), gives_away(book, others))
+                    self.assertIs(shows_stand(book, others, found), True)
+                    self.assertIs(shows_given(book, others, gives_away(book, namings)), True)
+
+    def test_nothing_given_away(self):
+        """Namings give nothing away exactly if their values fit each grid that keeps the book."""
+        found = []
+        for book, kept, namings in drawn_named(27, 200, 2, most_facts=5):
+            if do_stand(namings, kept):
+                found.append(all(values_of(namings).fits(grid) for grid in kept))
+                self.assertIs(bool(gives_away(book, namings)), found[-1])
+        both_sorts(self, found, 10)
 
 
 class Errors(Case):

@@ -4,12 +4,14 @@ import itertools
 import random
 import unittest
 
+from mutesigns.answers import sure_sayings
 from mutesigns.books import Book
+from mutesigns.check_sheets import shows_reading
 from mutesigns.cuttings import Cutting, cuttings, sayings_by
 from mutesigns.errors import BadGrid, BadSheet, BadWord, NoSign, TooMany
 from mutesigns.grids import Grid
 from mutesigns.scribe import squares, written
-from mutesigns.sheetgaps import words_in
+from mutesigns.sheetgaps import Reading, words_in
 from support import NO_LISTS, NO_NAMES, SAME, Case
 from test_beside import drawn_grid
 from test_books import EIGHT
@@ -104,11 +106,20 @@ class Written(Case):
                 continue
             self.assertIn(cutting, cutting_list)
             self.assertTrue(all(grid.holds(saying) for saying in sayings_by(sheet, cutting)))
-            book = Book(grid.signs)
-            for stem, ending in itertools.product(stems, endings):
+            book = Book(grid.signs, [saying for saying in grid.sayings()][::3])
+            self.assertIs(shows_reading(book, sheet, Reading(cutting, grid)), True)
+            for (stem, told), (ending, more) in itertools.product(stems.items(), endings.items()):
                 words = words_in(book, sheet, stem, ending)
                 word = sheet.word_at(stem, ending)
-                self.assertTrue(words == (word,) if word else len(words) > 0)
+                standing = [sign for sign in grid.signs if grid.place(sign) == (grid.place(told[1])[0], grid.place(more[0])[1])]
+                own = (*told[0], *(standing or [None]), *more[1])
+                self.assertIn(own, words)
+                if word:
+                    self.assertEqual((words, word), ((own,), own))
+                else:
+                    self.assertTrue(None in own or len(own) > 6)
+            surely = sure_sayings(Book(grid.signs, [*book.facts, *sayings_by(sheet, cutting)][:12]))
+            self.assertTrue(all(grid.holds(saying) for saying in surely))
 
     def cuttings_of(self, sheet):
         try:
